@@ -165,7 +165,7 @@ func TileAt(r Roof, course, cell int64) (int64, int64) {
 	if code := checkCourse(r, course); code != OK {
 		return 0, code
 	}
-	if cell < 0 || cell > 2*int64(r.Wide) {
+	if cell < 0 || cell >= r.across() {
 		return 0, ErrRange
 	}
 	return r.tileAt(course, cell), OK
@@ -462,9 +462,14 @@ func (r Roof) cells(at Place) [2]int64 {
 	return [2]int64{first, first + 1}
 }
 
+// across returns how many cells a course has.
+func (r Roof) across() int64 {
+	return 2*int64(r.Wide) + 1
+}
+
 // tileAt returns the tile that covers a cell of a course, or -1 for a half tile.
 func (r Roof) tileAt(course, cell int64) int64 {
-	half := 2 * int64(r.Wide)
+	half := r.across() - 1
 	if r.shifted(course) {
 		half = 0
 	}
@@ -475,6 +480,15 @@ func (r Roof) tileAt(course, cell int64) int64 {
 		cell--
 	}
 	return cell / 2
+}
+
+// kindOver returns the kind of the tile that covers a cell of a course; half tiles are whole.
+func (r Roof) kindOver(course, cell int64) int64 {
+	tile := r.tileAt(course, cell)
+	if tile < 0 {
+		return TiWhole
+	}
+	return int64(r.Tiles[course][tile])
 }
 
 // meeting returns the tiles of the course above or below that have a cell in common with a tile.
