@@ -18,6 +18,14 @@ func wrongIn(r impl.Roof) []impl.Place {
 	return placesWhere(r, func(at impl.Place) bool { return kindIn(r, at) != impl.TiWhole })
 }
 
+// withWrong returns a roof with at most so many of its tiles that are not whole; which ones are mended follows from the numbers.
+func withWrong(r impl.Roof, n *numbers, most int) impl.Roof {
+	for wrong := wrongIn(r); len(wrong) > most; wrong = wrongIn(r) {
+		r = mendedAt(r, wrong[n.below(len(wrong))])
+	}
+	return r
+}
+
 // everyRoof returns all roofs of a size and shift, ordered by their kinds as lists.
 func everyRoof(frame impl.Roof) []impl.Roof {
 	list := []impl.Roof{frame}

@@ -179,9 +179,18 @@ func TestDripAfter(t *testing.T) {
 	n := numbers(31)
 	eachRain(func(r impl.Roof, w impl.Rain) {
 		for _, list := range repairsFor(r, &n) {
-			want := dripsAfter(r, w, list)
 			sum, code := impl.DripAfter(r, w, list)
-			same(t, "drips", all(sum, code), all(want, int64(0)))
+			same(t, "drips", all(sum, code), all(dripsAfter(r, w, list), int64(0)))
+		}
+	})
+}
+
+func TestCheckRepairs(t *testing.T) {
+	n := numbers(39)
+	eachRain(func(r impl.Roof, w impl.Rain) {
+		r = withWrong(r, &n, impl.MaxWrong)
+		for _, list := range repairsFor(r, &n) {
+			want := dripsAfter(r, w, list)
 			for _, bound := range []int64{0, want - 1, want, want + 1, math.MaxInt64} {
 				if bound >= 0 {
 					is, code := impl.CheckRepairs(r, w, list, bound)
@@ -195,6 +204,7 @@ func TestDripAfter(t *testing.T) {
 func TestNeedlessRepairs(t *testing.T) {
 	n := numbers(32)
 	for i, r := range sampleRoofs() {
+		r = withWrong(r, &n, impl.MaxWrong)
 		for _, w := range sampleRains(r)[i%3 : i%3+3] {
 			for _, list := range repairsFor(r, &n) {
 				sum := dripsAfter(r, w, list)
@@ -289,24 +299,62 @@ func TestManyWrongTiles(t *testing.T) {
 		same(t, "all of them", all(list, code), all(wrongIn(r), int64(0)))
 		best, sum, code := impl.LeastDrip(r, w, 10)
 		same(t, "all of them", all(best, sum, code), all(wrongIn(r), int64(0), int64(0)))
+		is, code := impl.CheckRepairs(r, w, wrongIn(r), 0)
+		same(t, "all of them", all(is, code), all(true, int64(0)))
+		is, code = impl.CheckRepairs(r, w, wrongIn(r)[1:], 0)
+		same(t, "all but one", all(is, code), all(false, int64(0)))
+		needless, code := impl.NeedlessRepairs(r, w, wrongIn(r), 0)
+		same(t, "all of them", all(len(needless), code), all(0, int64(0)))
+		needless, code = impl.NeedlessRepairs(r, w, wrongIn(r)[1:], 0)
+		fails(t, "all but one", impl.ErrState, all(needless, code))
 		r = wrongRoof(impl.MaxWrong+1, kind)
 		for _, w := range []impl.Rain{w, {}} {
-			for _, number := range []int64{0, 1, 10, math.MaxInt64} {
-				list, code := impl.FewestRepairs(r, w, number)
-				fails(t, "FewestRepairs", impl.ErrLimit, all(list, code))
-				best, sum, code := impl.LeastDrip(r, w, min(number, 10))
-				fails(t, "LeastDrip", impl.ErrLimit, all(best, sum, code))
-			}
+			tooManyWrong(t, r, w, nil)
+			tooManyWrong(t, r, w, wrongIn(r))
+			tooManyWrong(t, r, w, []impl.Place{{}})
+			tooManyWrong(t, r, w, []impl.Place{{Course: 1, Tile: 7}})
 		}
-		list, code = impl.FewestRepairs(r, w, -1)
-		fails(t, "bound ahead of the limit", impl.ErrRange, all(list, code))
-		best, sum, code = impl.LeastDrip(r, w, 11)
-		fails(t, "number ahead of the limit", impl.ErrRange, all(best, sum, code))
-		is, code := impl.CheckRepairs(r, w, wrongIn(r), 0)
-		same(t, "repairs that are told have no limit", all(is, code), all(true, int64(0)))
-		needless, code := impl.NeedlessRepairs(r, w, wrongIn(r), 0)
-		same(t, "repairs that are told have no limit", all(len(needless), code), all(0, int64(0)))
 	}
+}
+
+// tooManyWrong asserts what the functions about repairs return for a roof with too many tiles that are not whole.
+func tooManyWrong(t *testing.T, r impl.Roof, w impl.Rain, list []impl.Place) {
+	t.Helper()
+	limited := []string{"CheckRepairs", "FewestRepairs", "NeedlessRepairs", "LeastDrip"}
+	for _, number := range []int64{0, 1, 10} {
+		got := callsOfRepairs(r, w, list, number)
+		same(t, "DripAfter has no limit", got["DripAfter"], all(dripsAfter(r, w, list), int64(0)))
+		for _, name := range limited {
+			fails(t, name, impl.ErrLimit, got[name])
+		}
+	}
+	for name, got := range callsOfRepairs(r, w, list, math.MaxInt64) {
+		if name != "DripAfter" && name != "LeastDrip" {
+			fails(t, name+" with the greatest bound", impl.ErrLimit, got)
+		}
+	}
+	for _, number := range []int64{-1, math.MinInt64} {
+		got := callsOfRepairs(r, w, list, number)
+		for _, name := range limited {
+			fails(t, name+": number ahead of the limit", impl.ErrRange, got[name])
+		}
+	}
+	best, sum, code := impl.LeastDrip(r, w, 11)
+	fails(t, "LeastDrip: number ahead of the limit", impl.ErrRange, all(best, sum, code))
+	got := callsOfRepairs(r, w, slices.Concat(list, []impl.Place{{Course: r.High}}), 10)
+	for _, name := range []string{"DripAfter", "CheckRepairs", "NeedlessRepairs"} {
+		fails(t, name+": place ahead of the limit", impl.ErrRange, got[name])
+	}
+}
+
+// P1: TestTooManyWrongTiles has roofs of each size with more tiles that are not whole than there can be.
+func TestTooManyWrongTiles(t *testing.T) {
+	n := numbers(40)
+	eachRain(func(r impl.Roof, w impl.Rain) {
+		if len(wrongIn(r)) > impl.MaxWrong {
+			tooManyWrong(t, r, w, somePlaces(r, &n))
+		}
+	})
 }
 
 // leastIn returns the first list, of at most so many tiles that are not whole, with the least drips, and these.
