@@ -414,6 +414,16 @@ func (r Roof) has(at Place) bool {
 	return at.Course >= 0 && at.Course < r.High && at.Tile >= 0 && at.Tile < r.Wide
 }
 
+// hasAll reports whether there are all places of a list; they may be any.
+func (r Roof) hasAll(list []Place) bool {
+	for _, at := range list {
+		if !r.has(at) {
+			return false
+		}
+	}
+	return true
+}
+
 func (r Roof) kind(at Place) int64 {
 	return int64(r.Tiles[at.Course][at.Tile])
 }

@@ -4,7 +4,6 @@ import (
 	"fmt"
 	"maps"
 	"math"
-	"reflect"
 	"slices"
 	"strings"
 	"testing"
@@ -178,22 +177,12 @@ func TestPromise1EqualResultsOfLeaks(t *testing.T) {
 		w := sampleRains(r)[i%6]
 		d := runningOf(r, w).drips
 		places, cases := somePlaces(r, &n), someCases(&n, n.below(6)+1)
-		calls := func() map[string]results {
+		returnTheSame(t, r, func() map[string]results {
 			list := everyLeakCall(r, w, d, places, cases, int64(i%4))
 			maps.Copy(list, callsOfCases([]impl.Roof{r, frameOf(r), r}, w, int64(i+1)))
 			maps.Copy(list, callsOfRepairs(r, w, nil, int64(i*50)))
 			return list
-		}
-		first, kept := calls(), calls()
-		if !reflect.DeepEqual(first, kept) {
-			t.Fatalf("%v: got %v, then %v", r, first, kept)
-		}
-		for _, got := range first {
-			spoil(got)
-		}
-		if again := calls(); !reflect.DeepEqual(again, kept) {
-			t.Fatalf("%v: got %v, then %v", r, kept, again)
-		}
+		})
 	}
 }
 

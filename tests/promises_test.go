@@ -87,17 +87,22 @@ func TestPromise1EqualResults(t *testing.T) {
 	for i, r := range sampleRoofs() {
 		at := placesIn(r)[i%len(placesIn(r))]
 		kind := int64(i % 4)
-		first := everyCall(r, exampleRoof(), at, kind, 1)
-		kept := everyCall(r, exampleRoof(), at, kind, 1)
-		if !reflect.DeepEqual(first, kept) {
-			t.Fatalf("%v: got %v, then %v", r, first, kept)
-		}
-		for _, got := range first {
-			spoil(got)
-		}
-		if again := everyCall(r, exampleRoof(), at, kind, 1); !reflect.DeepEqual(again, kept) {
-			t.Fatalf("%v: got %v, then %v", r, kept, again)
-		}
+		returnTheSame(t, r, func() map[string]results { return everyCall(r, exampleRoof(), at, kind, 1) })
+	}
+}
+
+// returnTheSame asserts that calls return the same results again, also behind a change of the first ones.
+func returnTheSame(t *testing.T, r impl.Roof, calls func() map[string]results) {
+	t.Helper()
+	first, kept := calls(), calls()
+	if !reflect.DeepEqual(first, kept) {
+		t.Fatalf("%v: got %v, then %v", r, first, kept)
+	}
+	for _, got := range first {
+		spoil(got)
+	}
+	if again := calls(); !reflect.DeepEqual(again, kept) {
+		t.Fatalf("%v: got %v, then %v", r, kept, again)
 	}
 }
 

@@ -74,21 +74,11 @@ func TestPromise1EqualResultsOfRain(t *testing.T) {
 		at := placesIn(r)[i%len(placesIn(r))]
 		w := sampleRains(r)[i%6]
 		number := int64(i%50 + 1)
-		calls := func() map[string]results {
+		returnTheSame(t, r, func() map[string]results {
 			list := callsWithRain(r, w, at, number)
 			maps.Copy(list, callsForRain(r, number, impl.RainText(r, w)))
 			return list
-		}
-		first, kept := calls(), calls()
-		if !reflect.DeepEqual(first, kept) {
-			t.Fatalf("%v: got %v, then %v", r, first, kept)
-		}
-		for _, got := range first {
-			spoil(got)
-		}
-		if again := calls(); !reflect.DeepEqual(again, kept) {
-			t.Fatalf("%v: got %v, then %v", r, kept, again)
-		}
+		})
 	}
 }
 
