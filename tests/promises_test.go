@@ -92,17 +92,17 @@ func TestPromise1EqualResults(t *testing.T) {
 }
 
 // returnTheSame asserts that calls return the same results again, also behind a change of the first ones.
-func returnTheSame(t *testing.T, r impl.Roof, calls func() map[string]results) {
+func returnTheSame(t *testing.T, of any, calls func() map[string]results) {
 	t.Helper()
 	first, kept := calls(), calls()
 	if !reflect.DeepEqual(first, kept) {
-		t.Fatalf("%v: got %v, then %v", r, first, kept)
+		t.Fatalf("%v: got %v, then %v", of, first, kept)
 	}
 	for _, got := range first {
 		spoil(got)
 	}
 	if again := calls(); !reflect.DeepEqual(again, kept) {
-		t.Fatalf("%v: got %v, then %v", r, kept, again)
+		t.Fatalf("%v: got %v, then %v", of, kept, again)
 	}
 }
 
@@ -111,25 +111,35 @@ func spoil(got results) {
 	for _, x := range got {
 		switch list := x.(type) {
 		case []int64:
-			list = list[:cap(list)]
-			for i := range list {
-				list[i] = -77
-			}
+			fill(list, -77)
+		case [][]int64:
+			fillEach(list, -77)
 		case []impl.Place:
-			spoilPlaces(list)
+			fill(list, noPlace)
 		case [][]impl.Place:
-			for i := range list {
-				spoilPlaces(list[i])
-				list[i] = nil
-			}
+			fillEach(list, noPlace)
+		case []impl.Piece:
+			fill(list, impl.Piece{Hand: -77, Wide: -77})
+		case impl.Shape:
+			fill(list.Courses, impl.Span{Left: -77, Right: -77})
 		}
 	}
 }
 
-func spoilPlaces(list []impl.Place) {
+var noPlace = impl.Place{Course: -77, Tile: -77}
+
+// fill writes over a slice, and over the room behind it.
+func fill[T any](list []T, with T) {
 	list = list[:cap(list)]
 	for i := range list {
-		list[i] = impl.Place{Course: -77, Tile: -77}
+		list[i] = with
+	}
+}
+
+func fillEach[T any](lists [][]T, with T) {
+	for i, list := range lists {
+		fill(list, with)
+		lists[i] = nil
 	}
 }
 
@@ -140,7 +150,7 @@ func TestPromise1PatchesAreApart(t *testing.T) {
 			want, _ := impl.PatchesOf(r, kind)
 			for i := range want {
 				got, _ := impl.PatchesOf(r, kind)
-				spoilPlaces(got[i])
+				fill(got[i], noPlace)
 				for j := range got {
 					if j != i {
 						same(t, "patch beside one that is changed", got[j], want[j])
