@@ -122,6 +122,8 @@ func spoil(got results) {
 			fill(list, impl.Piece{Hand: -77, Wide: -77})
 		case impl.Shape:
 			fill(list.Courses, impl.Span{Left: -77, Right: -77})
+		case impl.Gutter:
+			fill(list.Pipes, impl.Pipe{At: -77, Takes: -77})
 		}
 	}
 }
