@@ -293,13 +293,7 @@ func DifferIn(a, b Roof) ([]Place, int64) {
 	if a.mended() != b.mended() {
 		return nil, ErrState
 	}
-	var list []Place
-	for at := range a.places() {
-		if a.kind(at) != b.kind(at) {
-			list = append(list, at)
-		}
-	}
-	return list, OK
+	return a.placesWhere(func(at Place) bool { return a.kind(at) != b.kind(at) }), OK
 }
 
 // RoofText returns the text of a roof.
@@ -452,15 +446,20 @@ func (r Roof) places() iter.Seq[Place] {
 	}
 }
 
-// placesOf returns the places of all tiles of a kind, ordered.
-func (r Roof) placesOf(kind int64) []Place {
+// placesWhere returns the places of all tiles that are as a function tells, ordered.
+func (r Roof) placesWhere(is func(Place) bool) []Place {
 	var list []Place
 	for at := range r.places() {
-		if r.kind(at) == kind {
+		if is(at) {
 			list = append(list, at)
 		}
 	}
 	return list
+}
+
+// placesOf returns the places of all tiles of a kind, ordered.
+func (r Roof) placesOf(kind int64) []Place {
+	return r.placesWhere(func(at Place) bool { return r.kind(at) == kind })
 }
 
 // cells returns the two cells that a tile covers.
